@@ -2,9 +2,9 @@ package cell
 
 import (
 	"cmp"
-	"math/bits"
 
 	"facet/api"
+	"facet/plain"
 )
 
 // Compare answers -1, 0 or 1 as a is less than b, equal to it, or greater.
@@ -15,21 +15,11 @@ func Compare(a, b api.Ratio) (int, api.Errno) {
 	if signs := cmp.Compare(cmp.Compare(a.Num, 0), cmp.Compare(b.Num, 0)); signs != 0 {
 		return signs, api.OK
 	}
-	magnitudes := compareProducts(magnitude(a.Num), magnitude(b.Den), magnitude(b.Num), magnitude(a.Den))
+	magnitudes := plain.CompareProducts(magnitude(a.Num), magnitude(b.Den), magnitude(b.Num), magnitude(a.Den))
 	if a.Num < 0 {
 		return -magnitudes, api.OK
 	}
 	return magnitudes, api.OK
-}
-
-// compareProducts holds a*b against c*d in two words each: one would not do for numbers of any size.
-func compareProducts(a, b, c, d uint64) int {
-	high, low := bits.Mul64(a, b)
-	otherHigh, otherLow := bits.Mul64(c, d)
-	if high != otherHigh {
-		return cmp.Compare(high, otherHigh)
-	}
-	return cmp.Compare(low, otherLow)
 }
 
 func inForm(r api.Ratio) bool {

@@ -5,13 +5,14 @@ import (
 	"cmp"
 
 	"facet/api"
+	"facet/plain"
 )
 
 // Add answers the translation a + b, its parts from 0 to 23.
 func Add(a, b api.Vec) api.Vec {
 	a, b = residues(a, api.Parts), residues(b, api.Parts)
 	for i := range a {
-		a[i] = residue(a[i]+b[i], api.Parts)
+		a[i] = plain.Residue(a[i]+b[i], api.Parts)
 	}
 	return a
 }
@@ -28,9 +29,9 @@ func Neg(a api.Vec) api.Vec {
 
 // Times answers the translation n times a, its parts from 0 to 23.
 func Times(n int, a api.Vec) api.Vec {
-	n, a = residue(n, api.Parts), residues(a, api.Parts)
+	n, a = plain.Residue(n, api.Parts), residues(a, api.Parts)
 	for i := range a {
-		a[i] = residue(n*a[i], api.Parts)
+		a[i] = plain.Residue(n*a[i], api.Parts)
 	}
 	return a
 }
@@ -55,7 +56,7 @@ func Shift(p api.Point, t api.Vec) (api.Point, api.Errno) {
 	}
 	t = residues(t, api.Parts)
 	for i := range p.X {
-		p.X[i] = residue(p.X[i]+t[i]*(p.M/api.Parts), p.M)
+		p.X[i] = plain.Residue(p.X[i]+t[i]*(p.M/api.Parts), p.M)
 	}
 	return p, api.OK
 }
@@ -69,7 +70,7 @@ func Minus(p, q api.Point) (api.Point, api.Errno) {
 		return api.Point{}, api.ErrUnlike
 	}
 	for i := range p.X {
-		p.X[i] = residue(p.X[i]-q.X[i], p.M)
+		p.X[i] = plain.Residue(p.X[i]-q.X[i], p.M)
 	}
 	return p, api.OK
 }
@@ -117,18 +118,9 @@ func isFineness(m int) bool {
 	return m == 24 || m == 48 || m == 96 || m == 192
 }
 
-// residue answers n modulo m, from 0 to m-1 also where n is below 0.
-func residue(n, m int) int {
-	n %= m
-	if n < 0 {
-		n += m
-	}
-	return n
-}
-
 func residues(v api.Vec, m int) api.Vec {
 	for i := range v {
-		v[i] = residue(v[i], m)
+		v[i] = plain.Residue(v[i], m)
 	}
 	return v
 }
@@ -137,7 +129,7 @@ func residues(v api.Vec, m int) api.Vec {
 func opposites(v api.Vec, m int) api.Vec {
 	v = residues(v, m)
 	for i := range v {
-		v[i] = residue(-v[i], m)
+		v[i] = plain.Residue(-v[i], m)
 	}
 	return v
 }

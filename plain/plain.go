@@ -1,7 +1,31 @@
-// Package plain holds what several layers need of matrices and metrics and no layer lists: products beyond the bounds that layer 1 asks for, and the range of a metric's entries. Products ask nothing: who calls sees to it that nothing wraps round.
+// Package plain holds what several layers need of numbers, matrices, metrics and indices and no layer lists: products beyond the bounds that layer 1 asks for, and the ranges of metrics and indices. Products of matrices, rows and metrics ask nothing: who calls sees to it that nothing wraps round.
 package plain
 
-import "facet/api"
+import (
+	"cmp"
+	"math/bits"
+
+	"facet/api"
+)
+
+// Residue answers n modulo m, m above 0, from 0 to m-1 also where n is below 0.
+func Residue(n, m int) int {
+	n %= m
+	if n < 0 {
+		n += m
+	}
+	return n
+}
+
+// CompareProducts answers -1, 0 or 1 as a*b is less than c*d, equal to it, or greater. The products stand in two words each: one would not do for numbers of any size.
+func CompareProducts(a, b, c, d uint64) int {
+	high, low := bits.Mul64(a, b)
+	otherHigh, otherLow := bits.Mul64(c, d)
+	if high != otherHigh {
+		return cmp.Compare(high, otherHigh)
+	}
+	return cmp.Compare(low, otherLow)
+}
 
 // Row answers the row v m.
 func Row(v api.Vec, m api.Mat) api.Vec {
@@ -23,15 +47,9 @@ func Mul(a, b api.Mat) api.Mat {
 	return p
 }
 
-// Matrix answers the products of a metric's edges as a matrix.
-func Matrix(m api.Metric) api.Mat {
-	return api.Mat{{m.AA, m.AB, m.AC}, {m.AB, m.BB, m.BC}, {m.AC, m.BC, m.CC}}
-}
-
 // Dot answers the product of the vectors u and v, which are told by the edges of m.
 func Dot(m api.Metric, u, v api.Vec) int {
-	row := Row(u, Matrix(m))
-	return row[0]*v[0] + row[1]*v[1] + row[2]*v[2]
+	return u[0]*(m.AA*v[0]+m.AB*v[1]+m.AC*v[2]) + u[1]*(m.AB*v[0]+m.BB*v[1]+m.BC*v[2]) + u[2]*(m.AC*v[0]+m.BC*v[1]+m.CC*v[2])
 }
 
 // Turned answers the metric of the edges that are the columns of p, told by those of m.
@@ -43,19 +61,12 @@ func Turned(m api.Metric, p api.Mat) api.Metric {
 	}
 }
 
-// CheckEntries answers ErrArg if an entry of m lies outside its range.
-func CheckEntries(m api.Metric) api.Errno {
-	for _, square := range [3]int{m.AA, m.BB, m.CC} {
-		if square < 1 || square > api.MaxMetric {
-			return api.ErrArg
-		}
+// Adjugate answers the matrix that m's matrix multiplies to its determinant times the identity: it is the same across as well, and so may be told as a metric is.
+func Adjugate(m api.Metric) api.Metric {
+	return api.Metric{
+		AA: m.BB*m.CC - m.BC*m.BC, BB: m.AA*m.CC - m.AC*m.AC, CC: m.AA*m.BB - m.AB*m.AB,
+		BC: m.AC*m.AB - m.AA*m.BC, AC: m.AB*m.BC - m.BB*m.AC, AB: m.AC*m.BC - m.CC*m.AB,
 	}
-	for _, n := range [3]int{m.BC, m.AC, m.AB} {
-		if n < -api.MaxMetric || n > api.MaxMetric {
-			return api.ErrArg
-		}
-	}
-	return api.OK
 }
 
 func column(p api.Mat, j int) api.Vec {

@@ -1,6 +1,9 @@
 package unit
 
-import "facet/api"
+import (
+	"facet/api"
+	"facet/plain"
+)
 
 // step is a map that fits a grid, told in the grid's own parts: it sends the place at to r at + t, modulo the sides n. All its numbers are residues, so that no part of what it makes is below 0.
 type step struct {
@@ -16,7 +19,7 @@ func toStep(o api.Op, n api.Vec) (step, bool) {
 			if o.R[i][j]*side%other != 0 {
 				return step{}, false
 			}
-			s.r[i][j] = residue(o.R[i][j]*side/other, side)
+			s.r[i][j] = plain.Residue(o.R[i][j]*side/other, side)
 		}
 		if o.T[i]*side%api.Parts != 0 {
 			return step{}, false
@@ -50,13 +53,4 @@ func (s *step) fixed() int {
 		}
 	})
 	return count
-}
-
-// residue answers n modulo m, from 0 to m-1 also where n is below 0.
-func residue(n, m int) int {
-	n %= m
-	if n < 0 {
-		n += m
-	}
-	return n
 }
