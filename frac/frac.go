@@ -38,12 +38,12 @@ func Times(n int, a api.Vec) api.Vec {
 
 // Form tells whether p is a place in form.
 func Form(p api.Point) bool {
-	return isFineness(p.M) && p.X == residues(p.X, p.M)
+	return plain.IsFineness(p.M) && p.X == residues(p.X, p.M)
 }
 
 // Place answers the place v in m-ths, brought into the cell.
 func Place(m int, v api.Vec) (api.Point, api.Errno) {
-	if !isFineness(m) {
+	if !plain.IsFineness(m) {
 		return api.Point{}, api.ErrArg
 	}
 	return api.Point{M: m, X: residues(v, m)}, api.OK
@@ -85,7 +85,7 @@ func Opposite(p api.Point) (api.Point, api.Errno) {
 
 // Finer answers the place p in m-ths.
 func Finer(p api.Point, m int) (api.Point, api.Errno) {
-	if !isFineness(m) {
+	if !plain.IsFineness(m) {
 		return api.Point{}, api.ErrArg
 	}
 	if !Form(p) {
@@ -112,10 +112,6 @@ func Order(p, q api.Point) (int, api.Errno) {
 		}
 	}
 	return 0, api.OK
-}
-
-func isFineness(m int) bool {
-	return m == 24 || m == 48 || m == 96 || m == 192
 }
 
 func residues(v api.Vec, m int) api.Vec {

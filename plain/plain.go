@@ -1,4 +1,4 @@
-// Package plain holds what several layers need of numbers, matrices, metrics and indices and no layer lists: products beyond the bounds that layer 1 asks for, and the ranges of metrics and indices. Products of matrices, rows and metrics ask nothing: who calls sees to it that nothing wraps round.
+// Package plain holds what several layers need of numbers, matrices, metrics and indices and no layer lists: products beyond the bounds that layer 1 asks for, the ranges of metrics and indices, and the counts of parts in which places and turns are told. Products of matrices, rows and metrics ask nothing: who calls sees to it that nothing wraps round.
 package plain
 
 import (
@@ -7,6 +7,11 @@ import (
 
 	"facet/api"
 )
+
+// IsFineness tells whether m is one of the four counts of parts in which places and turns are told.
+func IsFineness(m int) bool {
+	return m == 24 || m == 48 || m == 96 || m == 192
+}
 
 // Residue answers n modulo m, m above 0, from 0 to m-1 also where n is below 0.
 func Residue(n, m int) int {

@@ -28,6 +28,14 @@ func TestProducts(t *testing.T) { // the products that P7.4, P11.2 and P12.3 nam
 	}
 }
 
+func TestIsFineness(t *testing.T) { // DOC.md's words: M is 24, 48, 96 or 192
+	for m := -200; m <= 400; m++ {
+		if want := m == 24 || m == 48 || m == 96 || m == 192; IsFineness(m) != want {
+			t.Errorf("IsFineness(%d) = %v", m, !want)
+		}
+	}
+}
+
 func TestResidue(t *testing.T) { // DOC.md's words: n modulo m, also where n is below 0
 	for _, c := range []struct{ n, m, want int }{{0, 24, 0}, {23, 24, 23}, {24, 24, 0}, {-1, 24, 23}, {-24, 24, 0}, {-25, 24, 23}, {5, 1, 0}, {math.MinInt, 24, 16}, {math.MaxInt, 24, 7}, {-1, math.MaxInt, math.MaxInt - 1}} {
 		if n := Residue(c.n, c.m); n != c.want {
