@@ -2,7 +2,7 @@ package ring
 
 import "math/bits"
 
-// wide is a whole number of 128 bits in two's complement. What comes up on the way to an answer may lie beyond an int, but never beyond 2^116: a product of an int and a coefficient has at most 115 bits, and a sum of all products of two numbers, brought to the shape, fewer.
+// wide is a whole number of 128 bits in two's complement. What comes up on the way to an answer may lie beyond an int, but not beyond 2^115: so far reaches the product of an int and a coefficient, and less far a sum of all products of two numbers while it is brought to the shape.
 type wide struct {
 	high, low uint64
 }
