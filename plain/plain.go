@@ -43,6 +43,11 @@ func Row(v api.Vec, m api.Mat) api.Vec {
 	return row
 }
 
+// Opposite answers -h.
+func Opposite(h api.Vec) api.Vec {
+	return api.Vec{-h[0], -h[1], -h[2]}
+}
+
 // Mul answers the product a b.
 func Mul(a, b api.Mat) api.Mat {
 	var p api.Mat

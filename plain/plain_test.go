@@ -15,6 +15,9 @@ func TestProducts(t *testing.T) { // the products that P7.4, P11.2 and P12.3 nam
 	if r := Row(api.Vec{1, -2, 3}, a); r != (api.Vec{14, 16, 21}) {
 		t.Errorf("Row = %v", r)
 	}
+	if h := Opposite(api.Vec{5, -7, 0}); h != (api.Vec{-5, 7, 0}) {
+		t.Errorf("Opposite = %v", h)
+	}
 	if p := Mul(a, b); p != (api.Mat{{5999996, 14, 30}, {14999996, 29, 63}, {23999994, 48, 103}}) {
 		t.Errorf("Mul = %v", p)
 	}
